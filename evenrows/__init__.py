@@ -1,0 +1,1 @@
+"""Evenrows: turns that are even whatever smooth worths the places have."""

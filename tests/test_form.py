@@ -1,0 +1,95 @@
+"""The form of the package: its interface, and rules of LANGUAGE.md that are plain to see."""
+
+import ast
+import importlib
+import inspect
+import re
+import unittest
+from pathlib import Path
+
+PACKAGE = Path(__file__).resolve().parent.parent / "evenrows"
+INTERFACE = {
+    "rows": {
+        "is_row": "(hands, thing)",
+        "signs": "(hands, row, one, other)",
+        "totals": "(hands, row, worths)",
+        "lead": "(hands, row, one, other, worths)",
+    },
+    "smooth": {
+        "differences": "(worths, *, order=1)",
+        "is_smooth": "(worths, degree)",
+    },
+    "sums": {
+        "sums": "(hands, row, one, other, *, order=1)",
+        "is_even": "(hands, row, degree)",
+        "evenness": "(hands, row)",
+    },
+}
+
+
+def files():
+    return sorted(path for path in PACKAGE.rglob("*") if path.is_file() and path.parent.name != "__pycache__")
+
+
+class InterfaceTest(unittest.TestCase):
+
+    def test_functions_are_as_written(self):
+        for name, functions in INTERFACE.items():
+            module = importlib.import_module("evenrows." + name)
+            for function, told in functions.items():
+                with self.subTest((name, function)):
+                    found = getattr(module, function)
+                    self.assertTrue(inspect.isfunction(found))
+                    self.assertEqual(found.__module__, module.__name__)
+                    self.assertEqual(str(inspect.signature(found)), told)
+
+    def test_arguments_are_taken_by_name(self):
+        from evenrows.rows import lead
+        from evenrows.smooth import differences, is_smooth
+        from evenrows.sums import is_even, sums
+        self.assertEqual(lead(hands=2, row=(0, 1), one=0, other=1, worths=(5, 3)), 2)
+        self.assertEqual(differences(worths=(5, 3), order=1), [-2])
+        self.assertIs(is_smooth(worths=(5, 3), degree=1), True)
+        self.assertEqual(sums(hands=2, row=(0, 1), one=0, other=1, order=2), [1, 1])
+        self.assertIs(is_even(hands=2, row=(0, 1), degree=0), True)
+
+    def test_what_stands_behind_a_star_is_taken_by_name_alone(self):
+        from evenrows.smooth import differences
+        from evenrows.sums import sums
+        with self.assertRaises(TypeError):
+            differences((5, 3), 1)
+        with self.assertRaises(TypeError):
+            sums(2, (0, 1), 0, 1, 1)
+
+
+class LanguageTest(unittest.TestCase):
+
+    def test_files_have_plain_names(self):
+        for path in files():
+            self.assertRegex(path.name, re.compile(r"^[a-z0-9_]+\.py\Z"))
+        self.assertIn("__init__.py", [path.name for path in files()])
+
+    def test_lines_and_signs(self):
+        for path in files():
+            text = path.read_bytes().decode("ascii")
+            self.assertRegex(text, re.compile(r"^[ -~\n]*\Z"))
+            self.assertLessEqual(len(text.splitlines()), 399, path.name)
+            self.assertLessEqual(max(len(line) for line in text.splitlines()), 120, path.name)
+
+    def test_functions_are_short(self):
+        for path in files():
+            for node in ast.walk(ast.parse(path.read_text())):
+                if isinstance(node, ast.FunctionDef):
+                    self.assertLessEqual(node.end_lineno - node.lineno + 1, 40, (path.name, node.name))
+
+    def test_nothing_is_imported_but_what_is_let(self):
+        for path in files():
+            for node in ast.walk(ast.parse(path.read_text())):
+                self.assertNotIsInstance(node, ast.Import, path.name)
+                if isinstance(node, ast.ImportFrom):
+                    self.assertEqual(node.level, 0, path.name)
+                    self.assertRegex(node.module, r"^(evenrows\.[a-z_]+|heapq|math|itertools|collections)$")
+
+
+if __name__ == "__main__":
+    unittest.main()
