@@ -1,16 +1,18 @@
 """What the calls of the interface ask of what they are handed.
 
-The messages are fixed: to show what was handed in could itself fail, as it
-does for a whole number of some thousand digits.
+The messages show nothing that was handed in: to show it could itself fail, as
+it does for a whole number of some thousand digits.
 """
 
-from evenrows.errors import NoDegree, NoHand, NoHands, NoOrder, NoRow, NoWorths
+from evenrows.errors import NoBound, NoDegree, NoHand, NoHands, NoOrder, NoPlaces, NoRow, NoWorths, TooLong
 
 FEWEST_HANDS = 2
 MOST_HANDS = 4
 MOST_PLACES = 64
 MOST_ORDER = 9
 MOST_DEGREE = 9
+MOST_LEAD_ORDER = 4
+MOST_BOUND = 99
 
 
 def is_whole(thing):
@@ -80,7 +82,50 @@ def check_order(order):
         raise NoOrder("an order is a whole number from 0 to 9")
 
 
-def check_degree(degree):
-    """Refuse what is no degree of smooth worths or even rows."""
-    if not is_from_to(degree, 0, MOST_DEGREE):
-        raise NoDegree("a degree is a whole number from 0 to 9")
+def check_lead_order(order):
+    """Refuse what is no order of greatest leads."""
+    if not is_from_to(order, 1, MOST_LEAD_ORDER):
+        raise NoOrder("an order of leads is a whole number from 1 to 4")
+
+
+def check_bound(bound):
+    """Refuse what is no bound of differences."""
+    if not is_from_to(bound, 0, MOST_BOUND):
+        raise NoBound("a bound is a whole number from 0 to 99")
+
+
+def check_degree(degree, *, most=MOST_DEGREE):
+    """Refuse what is no degree of smooth worths or even rows, up to the most."""
+    if not is_from_to(degree, 0, most):
+        raise NoDegree(f"a degree is a whole number from 0 to {most}")
+
+
+def check_names(hands, names):
+    """Refuse what is no tuple of all hands, each of them once."""
+    if not isinstance(names, tuple) or len(names) != hands:
+        raise NoHand("names are a tuple, as many as hands")
+    if not all([is_hand(hands, name) for name in names]):
+        raise NoHand("each name is a hand")
+    if sorted(names) != list(range(hands)):
+        raise NoHand("names are all hands, each once")
+
+
+def check_places(places, most):
+    """Refuse what is no number of places up to the most."""
+    if not is_from_to(places, 1, most):
+        raise NoPlaces(f"places are a whole number from 1 to {most}")
+
+
+def check_two_places(row, one, other):
+    """Refuse what are no two places of the row, which is checked already."""
+    last = len(row) - 1
+    if not is_from_to(one, 0, last) or not is_from_to(other, 0, last):
+        raise NoPlaces("a place is a whole number from 0 on, below the row's places")
+    if one == other:
+        raise NoPlaces("the two places are not alike")
+
+
+def check_length(places, most):
+    """Refuse more places than the most."""
+    if places > most:
+        raise TooLong(f"there are at most {most} places")

@@ -63,3 +63,66 @@ def sums(line, order):
 
 def signs(row, one, other):
     return [{one: 1, other: -1}.get(turn, 0) for turn in row]
+
+
+def leads_of_gaps(row, one, other, order):
+    """The leads at worths of which just one difference of the order is 1, all others 0."""
+    found = []
+    for gap in range(len(row) - order):
+        worths = [comb(place - gap - 1, order - 1) if place > gap else 0 for place in range(len(row))]
+        found.append(total(row, one, worths) - total(row, other, worths))
+    return found
+
+
+def greatest_of_two(row, one, other, order, bound):
+    if not two_are_even(row, one, other, order - 1):
+        return None
+    return bound * sum(abs(lead) for lead in leads_of_gaps(row, one, other, order))
+
+
+def greatest(hands, row, order, bound=1):
+    found = [greatest_of_two(row, one, other, order, bound) for one, other in combinations(range(hands), 2)]
+    return None if None in found else max(found)
+
+
+def worths_within(places, order, bound, firsts):
+    """All worths whose first ones are of firsts, and whose differences of the order are within the bound."""
+    ahead = min(order, places)
+    for begin in product(firsts, repeat=ahead):
+        for gaps in product(range(-bound, bound + 1), repeat=places - ahead):
+            worths = list(begin)
+            for gap in gaps:
+                back = sum((-1) ** step * comb(order, step) * worths[-step] for step in range(1, order + 1))
+                worths.append(gap - back)
+            yield tuple(worths)
+
+
+def unlike(row, other):
+    return sum(1 for place in range(len(row)) if row[place] != other[place])
+
+
+def swapped(row, one, other):
+    return tuple(row[{one: other, other: one}.get(place, place)] for place in range(len(row)))
+
+
+def mended(hands, row, order):
+    """By all exchanges, each held against the best one ahead of it."""
+    before, best = greatest(hands, row, order), None
+    for one in range(len(row)):
+        for other in range(one + 1, len(row)):
+            if row[one] == row[other]:
+                continue
+            found = greatest(hands, swapped(row, one, other), order)
+            if found is None or before is not None and found >= before:
+                continue
+            if best is None or found < best[2]:
+                best = (one, other, found)
+    return best
+
+
+def nearest(hands, row, degree):
+    best = None
+    for other in rows(hands, len(row)):
+        if is_even(hands, other, degree) and (best is None or unlike(other, row) < best[1]):
+            best = (other, unlike(other, row))
+    return best

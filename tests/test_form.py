@@ -24,6 +24,27 @@ INTERFACE = {
         "is_even": "(hands, row, degree)",
         "evenness": "(hands, row)",
     },
+    "leads": {
+        "greatest": "(hands, row, order, *, bound=1)",
+        "of_two": "(hands, row, one, other, order, *, bound=1)",
+        "worst": "(hands, row, one, other, order, *, bound=1)",
+    },
+    "making": {
+        "put_into": "(hands, row, other)",
+        "joined": "(hands, row, other)",
+        "turned": "(hands, row)",
+        "named": "(hands, row, names)",
+    },
+    "searching": {
+        "shortest": "(hands, degree)",
+        "calmest": "(hands, places, order)",
+    },
+    "mending": {
+        "exchanged": "(hands, row, one, other)",
+        "mended": "(hands, row, order)",
+        "mended_on": "(hands, row, order)",
+        "nearest": "(hands, row, degree)",
+    },
 }
 
 
@@ -53,6 +74,25 @@ class InterfaceTest(unittest.TestCase):
         self.assertEqual(sums(hands=2, row=(0, 1), one=0, other=1, order=2), [1, 1])
         self.assertIs(is_even(hands=2, row=(0, 1), degree=0), True)
 
+    def test_arguments_of_leads_and_made_and_mended_rows_are_taken_by_name(self):
+        from evenrows.leads import greatest, of_two, worst
+        from evenrows.making import joined, named, put_into, turned
+        from evenrows.mending import exchanged, mended, mended_on, nearest
+        from evenrows.searching import calmest, shortest
+        self.assertEqual(greatest(hands=2, row=(0, 1), order=1, bound=5), 5)
+        self.assertEqual(of_two(hands=2, row=(0, 1), one=0, other=1, order=1, bound=5), 5)
+        self.assertEqual(worst(hands=2, row=(0, 1), one=0, other=1, order=1, bound=5), (0, -5))
+        self.assertEqual(put_into(hands=2, row=(0, 0), other=(1,)), (1, 1))
+        self.assertEqual(joined(hands=2, row=(0, 0), other=(1,)), (0, 0, 1))
+        self.assertEqual(turned(hands=2, row=(0, 1)), (1, 0))
+        self.assertEqual(named(hands=2, row=(0, 0), names=(1, 0)), (1, 1))
+        self.assertEqual(shortest(hands=2, degree=0), (0, 1))
+        self.assertEqual(calmest(hands=2, places=2, order=1), (0, 1))
+        self.assertEqual(exchanged(hands=2, row=(0, 1), one=0, other=1), (1, 0))
+        self.assertEqual(mended(hands=2, row=(0, 0, 1, 1), order=1), (0, 2, 2))
+        self.assertEqual(mended_on(hands=2, row=(0, 0, 1, 1), order=1), [(0, 2, 2)])
+        self.assertEqual(nearest(hands=2, row=(0, 0), degree=0), ((0, 1), 1))
+
     def test_what_stands_behind_a_star_is_taken_by_name_alone(self):
         from evenrows.smooth import differences
         from evenrows.sums import sums
@@ -60,6 +100,15 @@ class InterfaceTest(unittest.TestCase):
             differences((5, 3), 1)
         with self.assertRaises(TypeError):
             sums(2, (0, 1), 0, 1, 1)
+
+    def test_a_bound_is_taken_by_name_alone(self):
+        from evenrows.leads import greatest, of_two, worst
+        with self.assertRaises(TypeError):
+            greatest(2, (0, 1), 1, 1)
+        with self.assertRaises(TypeError):
+            of_two(2, (0, 1), 0, 1, 1, 1)
+        with self.assertRaises(TypeError):
+            worst(2, (0, 1), 0, 1, 1, 1)
 
 
 class LanguageTest(unittest.TestCase):

@@ -30,3 +30,19 @@ def no_tuples():
         [], [0], [0, 1], [0, 1, 1, 0], {}, {0: 1}, set(), {0, 1}, frozenset({0, 1}),
         range(2), object(), tuple, len, fail, 1j, iter((0, 1)), Prickly(), Prickly,
     ]
+
+
+class Refusing:
+    """Beside TestCase: what a call has to refuse."""
+
+    def refuses(self, told, call, things):
+        """The call refuses each of the things that it is handed."""
+        for at, thing in enumerate(things):
+            with self.subTest(told=told.__name__, at=at), self.assertRaises(told):
+                call(thing)
+
+    def refuses_first(self, call, cases):
+        """The call tells that refusal which stands behind its arguments."""
+        for at, (*things, told) in enumerate(cases):
+            with self.subTest(first=told.__name__, at=at), self.assertRaises(told):
+                call(*things)
