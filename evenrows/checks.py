@@ -55,6 +55,11 @@ def check_row(hands, row):
 def check_two(hands, row, one, other):
     """Refuse what is no row of hands, then what are no two hands of it."""
     check_row(hands, row)
+    check_two_hands(hands, one, other)
+
+
+def check_two_hands(hands, one, other):
+    """Refuse what are no two of the hands, which are checked already."""
     if not is_hand(hands, one) or not is_hand(hands, other):
         raise NoHand("a hand is a whole number from 0 on, below the hands")
     if one == other:
@@ -76,6 +81,12 @@ def check_worths_of(row, worths):
         raise NoWorths("worths are as many as places")
 
 
+def check_worth(worth):
+    """Refuse what is no single worth."""
+    if not is_whole(worth):
+        raise NoWorths("a worth is a whole number")
+
+
 def check_order(order):
     """Refuse what is no order of differences or sums."""
     if not is_from_to(order, 0, MOST_ORDER):
@@ -86,6 +97,13 @@ def check_lead_order(order):
     """Refuse what is no order of greatest leads."""
     if not is_from_to(order, 1, MOST_LEAD_ORDER):
         raise NoOrder("an order of leads is a whole number from 1 to 4")
+
+
+def check_order_of(told, order):
+    """Refuse what is no order of leads, or one above how many worths are told."""
+    check_lead_order(order)
+    if order > len(told):
+        raise NoOrder("an order is not above how many worths are told")
 
 
 def check_bound(bound):
@@ -110,10 +128,10 @@ def check_names(hands, names):
         raise NoHand("names are all hands, each once")
 
 
-def check_places(places, most):
-    """Refuse what is no number of places up to the most."""
-    if not is_from_to(places, 1, most):
-        raise NoPlaces(f"places are a whole number from 1 to {most}")
+def check_places(places, most, *, least=1):
+    """Refuse what is no number of places from the least to the most."""
+    if not is_from_to(places, least, most):
+        raise NoPlaces(f"places are a whole number from {least} to {most}")
 
 
 def check_two_places(row, one, other):
@@ -129,3 +147,19 @@ def check_length(places, most):
     """Refuse more places than the most."""
     if places > most:
         raise TooLong(f"there are at most {most} places")
+
+
+def check_going_on(worths, places, order):
+    """Refuse what are no worths, then places and an order they do not go on by."""
+    check_worths(worths)
+    check_places(places, MOST_PLACES, least=len(worths))
+    check_order_of(worths, order)
+
+
+def check_foreseeing(row, told, order, bound):
+    """Refuse what are no worths told of the row, then an order or a bound of none."""
+    check_worths(told)
+    if len(told) > len(row):
+        raise NoWorths("no more worths are told than there are places")
+    check_order_of(told, order)
+    check_bound(bound)

@@ -79,12 +79,16 @@ def mend_of(hands, row, order):
 def leads_behind(hands, row, order):
     """For each exchange behind which there is a greatest lead: that, and both places."""
     found = []
-    for one, other in combinations(range(len(row)), 2):
-        if row[one] != row[other]:
-            behind = greatest_of(hands, exchange_of(row, one, other), order, 1)
-            if behind is not None:
-                found.append((behind, one, other))
+    for one, other in unlike_pairs(row, 0):
+        behind = greatest_of(hands, exchange_of(row, one, other), order, 1)
+        if behind is not None:
+            found.append((behind, one, other))
     return found
+
+
+def unlike_pairs(row, first):
+    """All two places from the first one on that have unlike hands, rising."""
+    return [(one, other) for one, other in combinations(range(first, len(row)), 2) if row[one] != row[other]]
 
 
 def unlike_places(row, other):

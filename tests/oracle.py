@@ -90,11 +90,7 @@ def worths_within(places, order, bound, firsts):
     ahead = min(order, places)
     for begin in product(firsts, repeat=ahead):
         for gaps in product(range(-bound, bound + 1), repeat=places - ahead):
-            worths = list(begin)
-            for gap in gaps:
-                back = sum((-1) ** step * comb(order, step) * worths[-step] for step in range(1, order + 1))
-                worths.append(gap - back)
-            yield tuple(worths)
+            yield gone_on(begin, gaps, order)
 
 
 def unlike(row, other):
@@ -126,3 +122,51 @@ def nearest(hands, row, degree):
         if is_even(hands, other, degree) and (best is None or unlike(other, row) < best[1]):
             best = (other, unlike(other, row))
     return best
+
+
+def gone_on(told, gaps, order):
+    """The worths told, and one more for each of the gaps, which are their differences of the order."""
+    worths = list(told)
+    for gap in gaps:
+        back = sum((-1) ** step * comb(order, step) * worths[-step] for step in range(1, order + 1))
+        worths.append(gap - back)
+    return tuple(worths)
+
+
+def all_gone_on(told, places, order, bound):
+    """All worths that begin with those told, and whose differences beyond them are within the bound."""
+    for gaps in product(range(-bound, bound + 1), repeat=places - len(told)):
+        yield gone_on(told, gaps, order)
+
+
+def foreseen(row, told, one, other, order, bound):
+    """By what each single difference beyond the worths told adds to the lead."""
+    straight = gone_on(told, (0,) * (len(row) - len(told)), order)
+    reach = 0
+    for beyond in range(len(told), len(row)):
+        worths = [comb(place - beyond + order - 1, order - 1) if place >= beyond else 0 for place in range(len(row))]
+        reach += bound * abs(total(row, one, worths) - total(row, other, worths))
+    lead = total(row, one, straight) - total(row, other, straight)
+    return lead - reach, lead + reach
+
+
+def most_foreseen(hands, row, told, order, bound):
+    return max(foreseen(row, told, one, other, order, bound)[1]
+               for one in range(hands) for other in range(hands) if one != other)
+
+
+def calming(hands, row, told, order, bound):
+    """By all exchanges, each held against the best one ahead of it."""
+    least, best = most_foreseen(hands, row, told, order, bound), None
+    for one in range(len(told), len(row)):
+        for other in range(one + 1, len(row)):
+            if row[one] != row[other]:
+                found = most_foreseen(hands, swapped(row, one, other), told, order, bound)
+                if found < least:
+                    least, best = found, (one, other, found)
+    return best
+
+
+def moments(hands, row, degree):
+    return [[sum(place ** power for place in range(len(row)) if row[place] == hand) for power in range(degree + 1)]
+            for hand in range(hands)]

@@ -45,6 +45,38 @@ INTERFACE = {
         "mended_on": "(hands, row, order)",
         "nearest": "(hands, row, degree)",
     },
+    "foreseeing": {
+        "straight_on": "(worths, places, order)",
+        "foreseen": "(hands, row, told, one, other, order, *, bound=1)",
+        "calming": "(hands, row, told, order, *, bound=1)",
+    },
+    "counting": {
+        "moments": "(hands, row, degree)",
+        "counted": "(hands, places, degree)",
+        "spread": "(hands, places, order)",
+    },
+    "texts": {
+        "row_text": "(hands, row)",
+        "read_row": "(hands, text)",
+        "worths_text": "(worths)",
+        "read_worths": "(text)",
+    },
+}
+METHODS = {
+    "__init__": "(self, hands, row)",
+    "tell": "(self, worth)",
+    "exchange": "(self, one, other)",
+    "totals": "(self)",
+    "worths": "(self)",
+    "row": "(self)",
+    "next": "(self)",
+    "most": "(self)",
+    "foresee": "(self, one, other, order, *, bound=1)",
+    "back": "(self)",
+    "twin": "(self)",
+    "__len__": "(self)",
+    "__str__": "(self)",
+    "__eq__": "(self, other)",
 }
 
 
@@ -63,6 +95,16 @@ class InterfaceTest(unittest.TestCase):
                     self.assertTrue(inspect.isfunction(found))
                     self.assertEqual(found.__module__, module.__name__)
                     self.assertEqual(str(inspect.signature(found)), told)
+
+    def test_the_class_is_as_written(self):
+        module = importlib.import_module("evenrows.tables")
+        self.assertTrue(inspect.isclass(module.Table))
+        self.assertEqual(module.Table.__module__, module.__name__)
+        for method, told in METHODS.items():
+            with self.subTest(method):
+                found = vars(module.Table)[method]
+                self.assertTrue(inspect.isfunction(found))
+                self.assertEqual(str(inspect.signature(found)), told)
 
     def test_arguments_are_taken_by_name(self):
         from evenrows.rows import lead
@@ -93,6 +135,21 @@ class InterfaceTest(unittest.TestCase):
         self.assertEqual(mended_on(hands=2, row=(0, 0, 1, 1), order=1), [(0, 2, 2)])
         self.assertEqual(nearest(hands=2, row=(0, 0), degree=0), ((0, 1), 1))
 
+    def test_arguments_of_leads_foreseen_counts_and_texts_are_taken_by_name(self):
+        from evenrows.counting import counted, moments, spread
+        from evenrows.foreseeing import calming, foreseen, straight_on
+        from evenrows.texts import read_row, read_worths, row_text, worths_text
+        self.assertEqual(straight_on(worths=(5, 3), places=3, order=2), (5, 3, 1))
+        self.assertEqual(foreseen(hands=2, row=(0, 1), told=(5,), one=0, other=1, order=1, bound=7), (-7, 7))
+        self.assertEqual(calming(hands=2, row=(0, 0, 1, 1), told=(0,), order=1, bound=3), (1, 2, 6))
+        self.assertEqual(moments(hands=2, row=(0, 1), degree=1), [[1, 0], [1, 1]])
+        self.assertEqual(counted(hands=2, places=4, degree=1), 2)
+        self.assertEqual(spread(hands=2, places=4, order=2), [(2, 2)])
+        self.assertEqual(row_text(hands=2, row=(0, 1)), "ab")
+        self.assertEqual(read_row(hands=2, text="ab"), (0, 1))
+        self.assertEqual(worths_text(worths=(5, -3)), "5 -3")
+        self.assertEqual(read_worths(text="5 -3"), (5, -3))
+
     def test_what_stands_behind_a_star_is_taken_by_name_alone(self):
         from evenrows.smooth import differences
         from evenrows.sums import sums
@@ -109,6 +166,11 @@ class InterfaceTest(unittest.TestCase):
             of_two(2, (0, 1), 0, 1, 1, 1)
         with self.assertRaises(TypeError):
             worst(2, (0, 1), 0, 1, 1, 1)
+        from evenrows.foreseeing import calming, foreseen
+        with self.assertRaises(TypeError):
+            foreseen(2, (0, 1), (5,), 0, 1, 1, 1)
+        with self.assertRaises(TypeError):
+            calming(2, (0, 1), (5,), 1, 1)
 
 
 class LanguageTest(unittest.TestCase):
